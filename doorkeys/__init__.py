@@ -1,0 +1,1 @@
+"""Doorkeys: people who come and go with too few keys."""
