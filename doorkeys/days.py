@@ -3,6 +3,10 @@
 from doorkeys.checks import check_tick
 from doorkeys.houses import is_home_letter
 
+# Where a scene has the persons who wait, and whether the house is open.
+WAITERS = 1
+UNLOCKED = 3
+
 
 class Course:
     """The persons and keys of a house after a tick; `tick` is -1 before tick 0."""
@@ -105,14 +109,21 @@ def at_home(house, tick):
 
 def find_cycle(house):
     """Return the tick after which the cycle begins, and its number of ticks."""
+    scenes = list(scenes_of(house))
+    begin = scenes.index(scenes[-1])
+    return (begin, len(scenes) - 1 - begin)
+
+
+def scenes_of(house):
+    """Yield the scenes from tick 0 on, up to the first that occurs a second time."""
     course = Course(house)
     course.advance()
     seen = {}
     while course.scene() not in seen:
-        seen[course.scene()] = course.tick
+        seen[course.scene()] = True
+        yield course.scene()
         course.advance()
-    begin = seen[course.scene()]
-    return (begin, course.tick - begin)
+    yield course.scene()
 
 
 def events_between(house, first, last):

@@ -3,6 +3,11 @@
 import math
 import random
 
+from doorkeys.houses import House
+
+LAST = 10 ** 18
+WRONG_TICKS = (-1, -LAST, LAST + 1, True, False, None, "0", "", (0,), [0], ())
+WRONG_PERSONS = (-1, 2, 6, True, False, None, "0", (0,), [0], ())
 LENGTHS = (1, 2, 3, 4, 6, 8, 12, 24)
 
 
@@ -28,6 +33,57 @@ def house_parts(seed):
     pairs = [(tick, person) for tick in range(period) for person in persons]
     chosen = chance.sample(pairs, min(len(pairs), chance.randint(0, 10)))
     return tuple(tables), chance.randint(0, 4), careful, tuple(sorted(chosen))
+
+
+def model_of(house):
+    """Return the model of a house before tick 0."""
+    return Model(house.tables, house.key_count, house.careful, house.reminders, house.period)
+
+
+def retell(house):
+    """Return the model's scenes, tick after tick, from the first one until the cycle has run three times."""
+    model = model_of(house)
+    scenes = []
+    while True:
+        model.step()
+        scene = model.scene()
+        if scene in scenes:
+            begin = scenes.index(scene)
+            cycle = scenes[begin:]
+            return scenes + cycle + cycle, begin, len(cycle)
+        scenes.append(scene)
+
+
+def rows_of(house):
+    """Return who waits after each tick of `retell`, as tuples."""
+    return [scene[1] for scene in retell(house)[0]]
+
+
+def small_house(seed):
+    """Return a house of one to four persons with a short period, different ones for different seeds."""
+    chance = random.Random(seed)
+    lengths = chance.choice(((1, 2, 3, 4), (2, 3, 6), (2, 4, 8), (3, 4, 6)))
+    tables = tuple(
+        "".join(chance.choice("hoo") for _ in range(chance.choice(lengths))) for _ in range(chance.randint(1, 4))
+    )
+    persons = range(len(tables))
+    careful = tuple(person for person in persons if chance.random() < 0.3)
+    house = House(tables, chance.randint(0, 3), careful)
+    pairs = [(tick, person) for tick in range(house.period) for person in persons]
+    chosen = chance.sample(pairs, min(len(pairs), chance.randint(0, 3)))
+    return House(tables, house.key_count, careful, tuple(sorted(chosen)))
+
+
+def unsteady(call, seeds):
+    """Return the seeds whose house a call changes, or for which it returns something else when repeated."""
+    found = []
+    for seed in seeds:
+        house = House(*house_parts(seed))
+        results = [call(house), call(house)]
+        parts = (house.tables, house.key_count, house.careful, house.reminders)
+        if results[0] != results[1] or parts != house_parts(seed):
+            found.append(seed)
+    return found
 
 
 class Model:

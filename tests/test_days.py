@@ -4,10 +4,7 @@ import unittest
 from doorkeys.days import at_home, events_between, find_cycle
 from doorkeys.errors import InvalidTick
 from doorkeys.houses import House
-from tests.helpers import Model, house_parts, raised
-
-LAST = 10 ** 18
-WRONG_TICKS = (-1, -LAST, LAST + 1, True, False, None, "0", "", (0,), [0], ())
+from tests.helpers import LAST, WRONG_TICKS, house_parts, model_of, raised, retell
 
 
 def events(house, first, last):
@@ -228,8 +225,7 @@ class CycleTest(unittest.TestCase):
     def test_cycles_of_many_houses(self):
         for seed in range(400):
             house = House(*house_parts(seed))
-            cycle = cycle_of(Model(*house_parts(seed), house.period))
-            self.assertEqual(find_cycle(house), cycle, seed)
+            self.assertEqual(find_cycle(house), retell(house)[1:], seed)
 
     def test_repeated_calls(self):
         house = House(("hhoo", "hhho"), 1, (0,))
@@ -242,7 +238,7 @@ class ManyHousesTest(unittest.TestCase):
     def test_events_and_persons_at_home(self):
         for seed in range(300):
             house = House(*house_parts(seed))
-            model = Model(*house_parts(seed), house.period)
+            model = model_of(house)
             expected = []
             for tick in range(60):
                 expected.extend(model.step())
@@ -256,7 +252,7 @@ class ManyHousesTest(unittest.TestCase):
         parts.append((("ooho", "ooh", "ohoo"), 1, (0, 2), ()))
         for arguments in parts:
             house = House(*arguments)
-            begin, length = cycle_of(Model(*arguments, house.period))
+            begin, length = retell(house)[1:]
             for late in range(LAST - 30, LAST + 1, 5):
                 early = begin + (late - begin) % length
                 self.assertEqual(at_home(house, late), at_home(house, early))
@@ -273,17 +269,6 @@ class ManyHousesTest(unittest.TestCase):
             events(house, 3, 30)
             raised(at_home, house, -1)
             self.assertEqual((house.tables, house.key_count, house.careful, house.reminders), house_parts(seed))
-
-
-def cycle_of(model):
-    """Return the cycle of a model by comparing all its scenes."""
-    scenes = []
-    while True:
-        model.step()
-        if model.scene() in scenes:
-            begin = scenes.index(model.scene())
-            return (begin, len(scenes) - begin)
-        scenes.append(model.scene())
 
 
 if __name__ == "__main__":

@@ -16,6 +16,7 @@ BUILTINS = set(
 LIBRARY = ("heapq", "math", "itertools", "collections")
 DECORATORS = ("property", "staticmethod", "classmethod")
 BARRED = (ast.AsyncFunctionDef, ast.Global, ast.Import, ast.Await)
+BARRED_NAMES = ("register", "mro", "elements", "open", "input", "law", "version_info", "with_traceback", "add_note")
 FILES = sorted(FOLDER.rglob("*.py"))
 
 
@@ -76,6 +77,33 @@ class LanguageTest(unittest.TestCase):
             if node.id in python_names:
                 self.assertIn(node.id, BUILTINS, (name, node.lineno))
                 self.assertIsInstance(node.ctx, ast.Load, (name, node.lineno))
+
+
+    def test_barred_names(self):
+        for name, node in all_nodes((ast.Name, ast.Attribute, ast.arg, ast.FunctionDef, ast.ClassDef, ast.keyword)):
+            for field in ("id", "attr", "arg", "name"):
+                self.assertNotIn(getattr(node, field, None), BARRED_NAMES, (name, node.lineno))
+
+    def test_local_names(self):
+        for path in FILES:
+            tree = ast.parse(path.read_text("utf-8"))
+            taken = {node.name for node in tree.body if isinstance(node, (ast.FunctionDef, ast.ClassDef))}
+            for node in tree.body:
+                if isinstance(node, ast.ImportFrom):
+                    taken |= {alias.name for alias in node.names}
+            for node in ast.walk(tree):
+                if isinstance(node, ast.arg):
+                    self.assertNotIn(node.arg, taken, (path.name, node.lineno))
+                if isinstance(node, ast.Name) and isinstance(node.ctx, ast.Store):
+                    self.assertNotIn(node.id, taken, (path.name, node.lineno))
+
+    def test_imports_are_used(self):
+        for path in FILES:
+            tree = ast.parse(path.read_text("utf-8"))
+            used = {node.id for node in ast.walk(tree) if isinstance(node, ast.Name)}
+            for node in tree.body:
+                if isinstance(node, ast.ImportFrom):
+                    self.assertLessEqual({alias.name for alias in node.names}, used, path.name)
 
 
 if __name__ == "__main__":
