@@ -5,11 +5,12 @@ from math import lcm
 from doorkeys.checks import is_integer
 from doorkeys.days import Course, find_cycle
 from doorkeys.errors import DifferentHouses
+from doorkeys.houses import House
 
 
 def first_difference(house, other):
     """Return the first tick after which different persons wait, and both groups, or None."""
-    if house.persons != other.persons:
+    if not is_pair(house, other):
         raise DifferentHouses("the houses have different numbers of persons")
     course = Course(house)
     second = Course(other)
@@ -19,6 +20,11 @@ def first_difference(house, other):
         if course.waiters != second.waiters:
             return (tick, tuple(course.waiters), tuple(second.waiters))
     return None
+
+
+def is_pair(house, other):
+    """Return whether two values are houses with the same number of persons."""
+    return isinstance(house, House) and isinstance(other, House) and house.persons == other.persons
 
 
 def count_ticks(house, other):

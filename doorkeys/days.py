@@ -90,11 +90,8 @@ class Course:
 def course_after(house, tick):
     """Return the course of a house after a tick, also after -1."""
     begin, length = find_cycle(house)
-    near = tick
-    if tick > begin:
-        near = begin + (tick - begin) % length
     course = Course(house)
-    for _ in range(near + 1):
+    for _ in range(early_tick(tick, begin, length) + 1):
         course.advance()
     # The same scene: its length is a multiple of the period.
     course.tick = tick
@@ -109,9 +106,20 @@ def at_home(house, tick):
 
 def find_cycle(house):
     """Return the tick after which the cycle begins, and its number of ticks."""
-    scenes = list(scenes_of(house))
+    return cycle_of(list(scenes_of(house)))
+
+
+def cycle_of(scenes):
+    """Return the beginning and the length of the cycle of a house with the scenes of `scenes_of`."""
     begin = scenes.index(scenes[-1])
     return (begin, len(scenes) - 1 - begin)
+
+
+def early_tick(tick, begin, length):
+    """Return the first tick with the same scene, given the beginning and the length of the cycle."""
+    if tick < begin:
+        return tick
+    return begin + (tick - begin) % length
 
 
 def scenes_of(house):

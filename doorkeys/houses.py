@@ -40,24 +40,18 @@ class House:
     @property
     def text(self):
         """The text of the house, from which `parse` makes it again."""
-        rows = [
-            ["tables", *self.tables],
-            ["keys", str(self.key_count)],
-            ["careful", *[str(person) for person in self.careful]],
-            ["remind", *[f"{tick}:{person}" for tick, person in self.reminders]],
-        ]
-        return "\n".join([" ".join(row) for row in rows])
+        return "\n".join([
+            " ".join(["tables", *self.tables]),
+            keys_line(self.key_count),
+            careful_line(self.careful),
+            remind_line(self.reminders),
+        ])
 
     @classmethod
     def parse(cls, text):
         """Return the house of a text."""
         tables, keys, careful, reminders = split_text(text)
-        return cls(
-            tuple(tables),
-            int(keys[0]),
-            tuple([int(word) for word in careful]),
-            tuple([read_reminder(word) for word in reminders]),
-        )
+        return cls(tuple(tables), int(keys[0]), read_numbers(careful), read_reminders(reminders))
 
     def wants_home(self, person, tick):
         """Return whether a person wants to be at home in a tick."""
@@ -183,7 +177,26 @@ def is_reminder_word(word):
     return len(parts) == 2 and all([is_number_word(part) for part in parts])
 
 
-def read_reminder(word):
-    """Return the reminder that a word means."""
-    tick, person = word.split(":")
-    return (int(tick), int(person))
+def read_numbers(words):
+    """Return the tuple of the numbers that words mean."""
+    return tuple([int(word) for word in words])
+
+
+def read_reminders(words):
+    """Return the tuple of the reminders that words mean."""
+    return tuple([read_numbers(word.split(":")) for word in words])
+
+
+def keys_line(keys):
+    """Return the line of a text for a number of keys."""
+    return f"keys {keys}"
+
+
+def careful_line(careful):
+    """Return the line of a text for careful persons."""
+    return " ".join(["careful", *[str(person) for person in careful]])
+
+
+def remind_line(reminders):
+    """Return the line of a text for reminders."""
+    return " ".join(["remind", *[f"{tick}:{person}" for tick, person in reminders]])

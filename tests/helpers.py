@@ -9,6 +9,13 @@ LAST = 10 ** 18
 WRONG_TICKS = (-1, -LAST, LAST + 1, True, False, None, "0", "", (0,), [0], ())
 WRONG_PERSONS = (-1, 2, 6, True, False, None, "0", (0,), [0], ())
 LENGTHS = (1, 2, 3, 4, 6, 8, 12, 24)
+NOT_INTEGERS = (True, False, None, "1", "", (1,), [1], ())
+NOT_LISTS = (None, True, False, 0, 5, "", "undo", (), (75,), (("undo",),))
+# Every part at its limit; the period is 24.
+LARGEST = House(
+    tuple("h" * (18 + person) + "o" * (6 - person) for person in range(6)), 9, (0, 1, 2, 3, 4, 5),
+    tuple((tick, person) for tick in (22, 23) for person in range(1, 6)),
+)
 
 
 def raised(call, *arguments):
@@ -18,6 +25,11 @@ def raised(call, *arguments):
     except ValueError as error:
         return error
     return None
+
+
+def parts_of(house):
+    """Return all attributes of a house."""
+    return house.tables, house.key_count, house.careful, house.reminders
 
 
 def house_parts(seed):
@@ -80,8 +92,7 @@ def unsteady(call, seeds):
     for seed in seeds:
         house = House(*house_parts(seed))
         results = [call(house), call(house)]
-        parts = (house.tables, house.key_count, house.careful, house.reminders)
-        if results[0] != results[1] or parts != house_parts(seed):
+        if results[0] != results[1] or parts_of(house) != house_parts(seed):
             found.append(seed)
     return found
 

@@ -48,6 +48,11 @@ class FirstDifferenceTest(unittest.TestCase):
             self.assertIs(type(raised(first_difference, PLAIN, House(tables, 1))), DifferentHouses)
             self.assertIs(type(raised(first_difference, House(tables, 1), PLAIN)), DifferentHouses)
 
+    def test_values_that_are_no_houses(self):
+        for value in (None, True, False, 2, "", "hooh", ("hooh", "hhoo"), [], ["hooh"], ()):
+            self.assertIs(type(raised(first_difference, PLAIN, value)), DifferentHouses)
+            self.assertIs(type(raised(first_difference, value, PLAIN)), DifferentHouses)
+
     def test_many_houses(self):
         houses = [small_house(seed) for seed in range(60)] + [House(*house_parts(seed)) for seed in range(60)]
         for house in houses:

@@ -2,10 +2,9 @@ import unittest
 
 from doorkeys.errors import HouseError, InvalidHouse, InvalidTick, UnknownPerson
 from doorkeys.houses import House
-from tests.helpers import LENGTHS, house_parts, raised
+from tests.helpers import LENGTHS, NOT_INTEGERS, house_parts, raised
 
 DAY = "h" * 24
-NOT_INTEGERS = (True, False, None, "1", "", (1,), [1], ())
 
 
 class ValidHouseTest(unittest.TestCase):
